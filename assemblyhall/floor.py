@@ -51,8 +51,8 @@ CALLS = (
 )
 
 
+# The answers to a line of calls on a new assembly, each behind how many numbers it has.
 def answers(calls):
-    """The answers to a line of calls on a new assembly, each behind how many numbers it has."""
     assembly = Assembly()
     told = []
     place = 0

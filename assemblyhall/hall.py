@@ -6,9 +6,8 @@ FIRST_QUORUM = 1
 FIRST_RULES = (0, 0, 0, 3, 0)
 
 
+# Words for the places from start up to stop: of the text, or of another amendment's words.
 class Amendment:
-    """Words for the places from start up to stop: of the text, or of another amendment's words."""
-
     def __init__(self, motion, start, stop, words):
         self.motion = motion
         self.start = start
@@ -16,17 +15,15 @@ class Amendment:
         self.words = words
 
 
+# A motion how to go on; how is also its rank: 0 send back, 1 close, 2 put off.
 class WayOn:
-    """A motion how to go on; how is also its rank: 0 send back, 1 close, 2 put off."""
-
     def __init__(self, motion, how):
         self.motion = motion
         self.how = how
 
 
+# A text before the assembly, with all that goes with it.
 class MainMotion:
-    """A text before the assembly, with all that goes with it."""
-
     def __init__(self, motion, words):
         self.motion = motion
         self.words = words
@@ -37,9 +34,8 @@ class MainMotion:
         self.closed = False
 
 
+# One assembly. Members and motions are known by their places in the lists.
 class Assembly:
-    """One assembly. Members and motions are known by their places in the lists."""
-
     def __init__(self):
         self.begin(FIRST_QUORUM, FIRST_RULES)
 

@@ -10,8 +10,8 @@ def is_member(assembly, member):
     return member < len(assembly.weights)
 
 
+# The refusal of a call by one who is no member or is away.
 def absence(assembly, member):
-    """The refusal of a call by one who is no member or is away."""
     if not is_member(assembly, member):
         return UNKNOWN
     if not assembly.there[member]:

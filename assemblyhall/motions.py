@@ -33,8 +33,8 @@ def number_motion(assembly, member):
     return len(assembly.movers) - 1
 
 
+# The refusals that come first in every call about what is before the assembly.
 def absence_or_nothing(assembly, member):
-    """The refusals that come first in every call about what is before the assembly."""
     refusal = absence(assembly, member)
     if refusal != NO_REFUSAL:
         return refusal
@@ -71,8 +71,8 @@ def words_to_amend(main):
     return main.amendment.words
 
 
+# What the amendment's places, and the words that would come of it, have against it.
 def place_refusal(assembly, start, stop, words):
-    """What the amendment's places, and the words that would come of it, have against it."""
     length = len(words_to_amend(assembly.main))
     if start > stop or stop > length:
         return WRONG

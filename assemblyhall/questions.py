@@ -8,8 +8,8 @@ FURTHER_AMENDMENT = 3
 SEND_BACK = 4
 
 
+# What is asked, as the first number of the call asked tells it.
 def asked_sort(main):
-    """What is asked, as the first number of the call asked tells it."""
     if main.ways_on:
         return SEND_BACK + main.ways_on[-1].how
     if main.further_amendment is not None:
@@ -20,7 +20,6 @@ def asked_sort(main):
 
 
 def asked_motion(main):
-    """The number of the motion that is asked."""
     sort = asked_sort(main)
     if sort >= SEND_BACK:
         return main.ways_on[-1].motion
@@ -31,8 +30,8 @@ def asked_motion(main):
     return main.motion
 
 
+# The text before the assembly is done with.
 def make_way(assembly):
-    """The text before the assembly is done with."""
     main = assembly.main
     if main.parts_to_come:
         # The same object stays: the next part has the same motion, and is closed if this one was.
