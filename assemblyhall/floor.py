@@ -2,7 +2,9 @@
 
 from assemblyhall.hall import Assembly
 from assemblyhall.members import admit, comes
-from assemblyhall.motions import amend, divide, go, move, withdraw
+from assemblyhall.motions import amend, divide, go, move, take, withdraw
+from assemblyhall.telling import tell_asked, tell_passed, tell_text, tell_votes, tell_who
+from assemblyhall.voting import vote
 
 
 def call_begins(assembly, numbers):
@@ -38,6 +40,35 @@ def call_withdraw(assembly, numbers):
     return [withdraw(assembly, numbers[0])]
 
 
+def call_take(assembly, numbers):
+    return [take(assembly, numbers[0], numbers[1])]
+
+
+def call_vote(assembly, numbers):
+    behind_those_for = 2 + numbers[1]
+    return vote(assembly, numbers[0], numbers[2:behind_those_for], numbers[behind_those_for:])
+
+
+def call_asked(assembly, numbers):
+    return tell_asked(assembly)
+
+
+def call_text(assembly, numbers):
+    return tell_text(assembly)
+
+
+def call_passed(assembly, numbers):
+    return tell_passed(assembly, numbers[0])
+
+
+def call_who(assembly, numbers):
+    return tell_who(assembly, numbers[0], numbers[1])
+
+
+def call_votes(assembly, numbers):
+    return tell_votes(assembly)
+
+
 # By the calls' numbers; each answers the list of its numbers, since some calls answer several.
 CALLS = (
     call_begins,
@@ -48,6 +79,13 @@ CALLS = (
     call_go,
     call_divide,
     call_withdraw,
+    call_take,
+    call_vote,
+    call_asked,
+    call_text,
+    call_passed,
+    call_who,
+    call_votes,
 )
 
 

@@ -19,6 +19,14 @@ def absence(assembly, member):
     return NO_REFUSAL
 
 
+def weigh(assembly, members):
+    return sum([assembly.weights[member] for member in members])
+
+
+def weigh_those_there(assembly):
+    return weigh(assembly, [member for member in range(len(assembly.weights)) if assembly.there[member]])
+
+
 def admit(assembly, weight):
     if weight < 1 or weight > MOST_WEIGHT:
         return WRONG

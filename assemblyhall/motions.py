@@ -1,18 +1,17 @@
-"""The calls by which members move motions, divide a text, and withdraw what is asked.
+"""The calls by which members move motions, divide a text, withdraw what is asked, and take up what was put off.
 
 Each call's checks stand in the order in which its refusals count.
 """
 
-from assemblyhall.hall import Amendment, MainMotion, WayOn
+from assemblyhall.hall import Amendment, MainMotion, WayOn, Word
 from assemblyhall.members import absence
-from assemblyhall.questions import MAIN, asked_motion, asked_sort, drop_asked
-from assemblyhall.refusals import FULL, NO_REFUSAL, NOT_THE_MOVER, OUT_OF_ORDER, WRONG
+from assemblyhall.questions import MAIN, PUT_OFF, SEND_BACK, asked_motion, asked_sort, drop_asked, how_many_parts
+from assemblyhall.refusals import FULL, NO_REFUSAL, NOT_THE_MOVER, OUT_OF_ORDER, UNKNOWN, WRONG
 
 MOST_MOTIONS = 100
 MOST_WORDS_MOVED = 30
 MOST_WORDS_AMENDED = 60
 LAST_WORD = 99999
-PUT_OFF = 2
 
 
 def may_be_moved(words):
@@ -31,6 +30,10 @@ def motions_are_full(assembly):
 def number_motion(assembly, member):
     assembly.movers.append(member)
     return len(assembly.movers) - 1
+
+
+def words_of(motion, numbers):
+    return [Word(number, motion) for number in numbers]
 
 
 # The refusals that come first in every call about what is before the assembly.
@@ -61,7 +64,7 @@ def move(assembly, member, words):
     if refusal != NO_REFUSAL:
         return refusal
     motion = number_motion(assembly, member)
-    assembly.main = MainMotion(motion, words)
+    assembly.main = MainMotion(motion, words_of(motion, words))
     return motion
 
 
@@ -101,7 +104,7 @@ def amend(assembly, member, start, stop, words):
         return refusal
     main = assembly.main
     motion = number_motion(assembly, member)
-    amendment = Amendment(motion, start, stop, words)
+    amendment = Amendment(motion, start, stop, words_of(motion, words))
     if main.amendment is None:
         main.amendment = amendment
     else:
@@ -114,7 +117,7 @@ def go_refusal(assembly, member, how):
     if refusal != NO_REFUSAL:
         return refusal
     main = assembly.main
-    if main.closed and how != PUT_OFF:
+    if main.closed and SEND_BACK + how != PUT_OFF:
         return OUT_OF_ORDER
     # Each one ranks above those before it, so the last one is the highest.
     if main.ways_on and main.ways_on[-1].how >= how:
@@ -151,7 +154,7 @@ def divide(assembly, member, place):
     main = assembly.main
     main.parts_to_come.insert(0, main.words[place:])
     main.words = main.words[:place]
-    return 1 + len(main.parts_to_come)
+    return how_many_parts(main)
 
 
 def withdraw(assembly, member):
@@ -162,3 +165,22 @@ def withdraw(assembly, member):
         return NOT_THE_MOVER
     drop_asked(assembly)
     return 0
+
+
+def take_refusal(assembly, member, which):
+    refusal = absence(assembly, member)
+    if refusal != NO_REFUSAL:
+        return refusal
+    if which >= len(assembly.put_off):
+        return UNKNOWN
+    if assembly.main is not None:
+        return OUT_OF_ORDER
+    return NO_REFUSAL
+
+
+def take(assembly, member, which):
+    refusal = take_refusal(assembly, member, which)
+    if refusal != NO_REFUSAL:
+        return refusal
+    assembly.main = assembly.put_off.pop(which)
+    return asked_sort(assembly.main)

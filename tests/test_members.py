@@ -1,8 +1,6 @@
 import unittest
 
-from lines import LineCase, begins, comes, member, move
-
-BIG = 4294967295
+from lines import BIG, LineCase, begins, comes, member, move
 
 
 class Member(LineCase):

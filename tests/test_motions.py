@@ -1,21 +1,10 @@
 import unittest
 
-from assemblyhall.hall import Assembly
-from assemblyhall.members import admit
-from assemblyhall.motions import amend as amend_now
-from assemblyhall.motions import divide as divide_now
-from assemblyhall.motions import go as go_now
-from assemblyhall.motions import move as move_now
-from assemblyhall.motions import withdraw as withdraw_now
-from lines import BACK, CLOSE, OFF, LineCase, amend, begins, comes, divide, go, member, move, withdraw
+from lines import (BACK, BIG, CLOSE, OFF, LineCase, amend, begins, comes, divide, go, member, move, numbered, told,
+                   text, vote, withdraw)
 
-BIG = 4294967295
 BOTH = ((member(), 0), (member(), 1))
 MOVED = (*BOTH, (move(0, [11, 12, 13]), 0))
-
-
-def numbered(first, many):
-    return list(range(first, first + many))
 
 
 class Move(LineCase):
@@ -114,6 +103,35 @@ class Amend(LineCase):
         self.check(*MOVED, (amend(1, 0, 0, [1]), 1), (amend(1, 0, 0, [1]), 2), (amend(0, 0, 0, [1]), -4),
                    (amend(0, 0, 0, [0]), -1), (amend(0, 0, 0, numbered(1, 31)), -1), (amend(0, 1, 0, [1]), -4),
                    (amend(0, 0, 9, [1]), -4), (amend(0, 0, 0, []), -4), (withdraw(1), 0), (amend(0, 0, 0, [1]), 3))
+
+
+class MostWords(LineCase):
+    def test_60_words_of_the_text(self):
+        self.check(*BOTH, (move(0, numbered(1, 30)), 0), (amend(0, 30, 30, numbered(101, 30)), 1),
+                   (vote([0]), [1, 1, 0]), (text(), told(numbered(1, 30) + numbered(101, 30))),
+                   (amend(0, 60, 60, [7]), -5), (amend(0, 0, 1, [7, 8]), -5), (amend(0, 30, 59, numbered(1, 30)), -5),
+                   (amend(0, 61, 61, [7]), -1), (amend(0, 1, 0, [7]), -1), (amend(0, 60, 60, numbered(1, 31)), -1),
+                   (comes(1, 0), 0), (amend(1, 60, 60, [7]), -3), (amend(2, 60, 60, [7]), -2),
+                   (amend(0, 30, 60, numbered(1, 30)), 2))
+
+    def test_a_motion_out_of_order_counts_before_60_words(self):
+        self.check(*BOTH, (move(0, numbered(1, 30)), 0), (amend(0, 30, 30, numbered(101, 30)), 1),
+                   (vote([0]), [1, 1, 0]), (go(0, OFF), 2), (amend(0, 60, 60, [7]), -4), (withdraw(0), 0),
+                   (amend(0, 60, 60, [7]), -5))
+
+    def test_60_words_of_the_amendment(self):
+        self.check(*BOTH, (move(0, [5]), 0), (amend(0, 0, 1, numbered(1, 30)), 1),
+                   (amend(0, 15, 15, numbered(101, 30)), 2), (vote([0]), [1, 1, 0]),
+                   (amend(0, 60, 60, [7]), -5), (amend(0, 15, 16, [7, 8]), -5), (amend(0, 61, 61, [7]), -1),
+                   (amend(0, 15, 45, numbered(201, 30)), 3), (vote([0]), [1, 1, 0]),
+                   (text(), told([5], amendment=(0, 1, numbered(1, 15) + numbered(201, 30) + numbered(16, 15)))))
+
+    def test_an_amendment_to_the_amendment_is_counted_by_the_words_of_that(self):
+        ninety = numbered(1, 30) + numbered(101, 30) + numbered(201, 30)
+        self.check(*BOTH, (move(0, numbered(1, 30)), 0), (amend(0, 30, 30, numbered(101, 30)), 1),
+                   (amend(0, 30, 30, numbered(201, 30)), 2), (vote([0]), [1, 1, 0]), (vote([0]), [1, 1, 0]),
+                   (text(), told(ninety)), (amend(0, 0, 29, []), -5), (amend(0, 0, 30, []), 3),
+                   (vote([0]), [1, 1, 0]), (text(), told(ninety[30:])))
 
 
 class Go(LineCase):
@@ -239,50 +257,6 @@ class HundredMotions(LineCase):
 
     def test_a_new_assembly_counts_anew(self):
         self.check(*self.used_up_to(100), (move(0, [1]), -5), (begins(), 0), *BOTH, (move(0, [1]), 0))
-
-
-class OnlyBehindVotes(unittest.TestCase):
-    # What only votes bring about is set up by hand here.
-
-    def setUp(self):
-        self.assembly = Assembly()
-        admit(self.assembly, 1)
-        move_now(self.assembly, 0, numbered(1, 30))
-        self.main = self.assembly.main
-
-    def test_more_than_60_words_of_an_amendment_to_the_text(self):
-        self.main.words = numbered(1, 31)
-        self.assertEqual(amend_now(self.assembly, 0, 31, 31, numbered(1, 30)), -5)
-        self.assertEqual(amend_now(self.assembly, 0, 32, 32, numbered(1, 30)), -1)
-        self.assertEqual(self.main.amendment, None)
-        self.assertEqual(amend_now(self.assembly, 0, 0, 1, numbered(1, 30)), 1)
-
-    def test_more_than_60_words_of_an_amendment_to_the_amendment(self):
-        amend_now(self.assembly, 0, 0, 1, [1])
-        self.main.amendment.words = numbered(1, 32)
-        self.assertEqual(amend_now(self.assembly, 0, 4, 5, numbered(1, 30)), -5)
-        self.assertEqual(amend_now(self.assembly, 0, 5, 4, numbered(1, 30)), -1)
-        self.assertEqual(self.main.further_amendment, None)
-        self.assertEqual(amend_now(self.assembly, 0, 4, 6, numbered(1, 30)), 2)
-
-    def test_closed(self):
-        self.main.closed = True
-        self.assertEqual(amend_now(self.assembly, 0, 0, 1, [1]), -4)
-        self.assertEqual(amend_now(self.assembly, 0, 1, 0, [1]), -4)
-        self.assertEqual(amend_now(self.assembly, 0, 0, 1, [0]), -1)
-        self.assertEqual(go_now(self.assembly, 0, BACK), -4)
-        self.assertEqual(go_now(self.assembly, 0, CLOSE), -4)
-        self.assertEqual(go_now(self.assembly, 0, OFF), 1)
-        self.assertEqual(go_now(self.assembly, 0, OFF), -4)
-
-    def test_the_next_part_is_closed_if_it_was_and_the_next_motion_is_not(self):
-        self.main.closed = True
-        self.assertEqual(divide_now(self.assembly, 0, 10), 2)
-        self.assertEqual(withdraw_now(self.assembly, 0), 0)
-        self.assertEqual(amend_now(self.assembly, 0, 0, 1, [1]), -4)
-        self.assertEqual(withdraw_now(self.assembly, 0), 0)
-        self.assertEqual(move_now(self.assembly, 0, [1]), 1)
-        self.assertEqual(amend_now(self.assembly, 0, 0, 1, [1]), 2)
 
 
 if __name__ == "__main__":
